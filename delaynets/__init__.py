@@ -1,0 +1,1 @@
+"""Delaynets: streams that change their rates, decided for all signals."""

@@ -1,0 +1,12 @@
+"""The bounds of expressions and nets."""
+
+MAX_PARTS = 12
+MAX_DEPTH = 5
+MAX_TERMS = 5
+MAX_GAIN = 99
+MAX_STEP = 6
+MAX_DEFINITIONS = 12
+MAX_KEPT = 8
+MAX_PERIOD = 6
+MAX_RATE = 12
+MAX_JOINT = 12

@@ -1,0 +1,102 @@
+"""What can be seen from the outside of the files: where things stand, and a part of the rules for the code."""
+
+import ast
+import builtins
+import unittest
+from pathlib import Path
+
+from delaynets import errors, numbers, signals
+
+FOLDER = Path(__file__).resolve().parent.parent / "delaynets"
+LIBRARY = {
+    "heapq": {"heappush", "heappop", "heapify", "heapreplace", "heappushpop"},
+    "math": {"gcd", "lcm", "isqrt", "comb", "perm", "factorial"},
+    "itertools": {"product", "combinations", "permutations"},
+    "__future__": {"annotations"},
+}
+ALLOWED = set("""len range enumerate zip min max sum abs sorted reversed int str bool bytes list tuple dict set frozenset
+    isinstance ord repr any all divmod map iter next super property staticmethod classmethod object float NotImplemented
+    Exception ValueError TypeError KeyError IndexError LookupError ZeroDivisionError ArithmeticError OverflowError
+    RuntimeError NotImplementedError AttributeError StopIteration""".split())
+BARRED = {"register", "mro", "elements", "open", "input", "law", "version_info", "with_traceback", "add_note"}
+NUMBER_METHODS = """__init__ read top bottom sign over __add__ __radd__ __sub__ __rsub__ __mul__ __rmul__ __neg__ __abs__
+    __pow__ __eq__ __str__ __repr__""".split()
+
+
+def trees():
+    return [(path, ast.parse(path.read_text())) for path in sorted(FOLDER.rglob("*.py"))]
+
+
+class PlacesTest(unittest.TestCase):
+    def test_each_class_and_function_stands_in_its_file(self):
+        for module, names in ((numbers, ["Number"]), (signals, ["Signal", "Name", "Sum", "Times", "Late", "Every",
+                                                                "Spread", "read_signal"])):
+            for name in names:
+                self.assertEqual(getattr(module, name).__module__, module.__name__)
+
+    def test_each_error_stands_in_its_file(self):
+        kinds = [kind for kind in vars(errors).values() if isinstance(kind, type)]
+        for kind in kinds:
+            self.assertEqual(kind.__module__, "delaynets.errors")
+
+    def test_each_method_stands_in_its_class(self):
+        for name in NUMBER_METHODS:
+            self.assertIn(name, vars(numbers.Number))
+        self.assertIsInstance(vars(numbers.Number)["read"], staticmethod)
+        for name in ("top", "bottom", "sign"):
+            self.assertIsInstance(vars(numbers.Number)[name], property)
+        for kind in (signals.Name, signals.Sum, signals.Times, signals.Late, signals.Every, signals.Spread):
+            self.assertIn("__init__", vars(kind))
+            self.assertIn("WORD", vars(kind))
+
+
+class RulesTest(unittest.TestCase):
+    def test_files(self):
+        for path in FOLDER.rglob("*"):
+            if "__pycache__" not in path.parts:
+                self.assertEqual((path.is_file(), path.suffix), (True, ".py"))
+        self.assertTrue((FOLDER / "__init__.py").is_file())
+
+    def test_sizes_and_characters(self):
+        for path, tree in trees():
+            text = path.read_bytes().decode("ascii")
+            self.assertTrue(all(sign == "\n" or " " <= sign <= "~" for sign in text), path)
+            self.assertLessEqual(len(text.splitlines()), 399, path)
+            self.assertLessEqual(max(map(len, text.splitlines())), 120, path)
+            for node in ast.walk(tree):
+                if isinstance(node, ast.FunctionDef):
+                    self.assertLessEqual(node.end_lineno - node.lineno + 1, 40, f"{path} {node.name}")
+
+    def test_imports(self):
+        for path, tree in trees():
+            for node in ast.walk(tree):
+                self.assertNotIsInstance(node, ast.Import, path)
+                if isinstance(node, ast.ImportFrom):
+                    self.assertIn(node, tree.body, path)
+                    self.assertEqual(node.level, 0, path)
+                    if not node.module.startswith("delaynets."):
+                        self.assertLessEqual({name.name for name in node.names}, LIBRARY[node.module], path)
+
+    def test_statements(self):
+        for path, tree in trees():
+            for node in ast.walk(tree):
+                self.assertNotIsInstance(node, (ast.Global, ast.AsyncFunctionDef, ast.Await, ast.Div), path)
+                if isinstance(node, ast.Constant):
+                    self.assertNotIsInstance(node.value, (float, complex), path)
+                    self.assertFalse(isinstance(node.value, str) and "%" in node.value, path)
+
+    def test_names(self):
+        for path, tree in trees():
+            for node in ast.walk(tree):
+                if isinstance(node, ast.Name):
+                    self.assertFalse(node.id in vars(builtins) and node.id not in ALLOWED, f"{path} {node.id}")
+                    if not isinstance(node.ctx, ast.Load):
+                        self.assertNotIn(node.id, vars(builtins), path)
+                for field in ("id", "attr", "name", "arg"):
+                    self.assertNotIn(getattr(node, field, None), BARRED, path)
+                if isinstance(node, ast.arg):
+                    self.assertNotIn(node.arg, vars(builtins), path)
+
+
+if __name__ == "__main__":
+    unittest.main()

@@ -38,7 +38,7 @@ def _written(word, arguments):
 class Signal:
     """An expression. Each one is an object of a class below."""
 
-    def __init__(self, text, inside):
+    def __init__(self, text, inside, amount):
         parts = 1 + sum([signal.parts for signal in inside])
         depth = 1 + max([signal.depth for signal in inside], default=0)
         if parts > MAX_PARTS:
@@ -47,8 +47,19 @@ class Signal:
             raise TooMany(MAX_DEPTH)
         self._text = text
         self._inside = inside
+        self._amount = amount
         self._parts = parts
         self._depth = depth
+
+    @property
+    def inside(self):
+        """The tuple of the expressions directly inside."""
+        return self._inside
+
+    @property
+    def amount(self):
+        """The number that stands beside the expression inside; None if none does."""
+        return self._amount
 
     @property
     def names(self):
@@ -109,7 +120,7 @@ class Name(Signal):
     def __init__(self, name):
         if not is_name(name):
             raise InvalidName(name)
-        Signal.__init__(self, name, ())
+        Signal.__init__(self, name, (), None)
 
 
 class Sum(Signal):
@@ -123,7 +134,7 @@ class Sum(Signal):
         for index, term in enumerate(terms):
             if not isinstance(term, Signal):
                 raise InvalidTerms(index)
-        Signal.__init__(self, _written(self.WORD, terms), terms)
+        Signal.__init__(self, _written(self.WORD, terms), terms, None)
 
 
 class Times(Signal):
@@ -136,7 +147,8 @@ class Times(Signal):
             raise InvalidGain(number)
         if not isinstance(signal, Signal):
             raise NotASignal(signal)
-        Signal.__init__(self, _written(self.WORD, (as_number(number), signal)), (signal,))
+        gain = as_number(number)
+        Signal.__init__(self, _written(self.WORD, (gain, signal)), (signal,), gain)
 
 
 class Late(Signal):
@@ -149,7 +161,7 @@ class Late(Signal):
             raise NotASignal(signal)
         if not _is_between(count, 0, MAX_DELAY):
             raise InvalidCount(count)
-        Signal.__init__(self, _written(self.WORD, (signal, count)), (signal,))
+        Signal.__init__(self, _written(self.WORD, (signal, count)), (signal,), count)
 
 
 class Every(Signal):
@@ -162,7 +174,7 @@ class Every(Signal):
             raise NotASignal(signal)
         if not _is_between(step, 1, MAX_STEP):
             raise InvalidStep(step)
-        Signal.__init__(self, _written(self.WORD, (signal, step)), (signal,))
+        Signal.__init__(self, _written(self.WORD, (signal, step)), (signal,), step)
 
 
 class Spread(Signal):
@@ -175,7 +187,7 @@ class Spread(Signal):
             raise NotASignal(signal)
         if not _is_between(step, 1, MAX_STEP):
             raise InvalidStep(step)
-        Signal.__init__(self, _written(self.WORD, (signal, step)), (signal,))
+        Signal.__init__(self, _written(self.WORD, (signal, step)), (signal,), step)
 
 
 def read_signal(text):

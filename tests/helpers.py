@@ -43,9 +43,9 @@ class PromiseTest(unittest.TestCase):
             self.same(getattr(caught, name), value)
 
     def same(self, got, value):
-        """Check that both are the same object, or equal ints of the very class."""
+        """Check that both are the same object, or equal ints or strings of the very class."""
         self.assertIs(got.__class__, value.__class__)
-        if value.__class__ is int:
+        if value.__class__ in (int, str):
             self.assertEqual(got, value)
         else:
             self.assertIs(got, value)

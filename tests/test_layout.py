@@ -5,7 +5,7 @@ import builtins
 import unittest
 from pathlib import Path
 
-from delaynets import errors, numbers, signals
+from delaynets import blocks, catalog, errors, nets, numbers, runs, signals
 
 FOLDER = Path(__file__).resolve().parent.parent / "delaynets"
 LIBRARY = {
@@ -19,8 +19,30 @@ ALLOWED = set("""len range enumerate zip min max sum abs sorted reversed int str
     Exception ValueError TypeError KeyError IndexError LookupError ZeroDivisionError ArithmeticError OverflowError
     RuntimeError NotImplementedError AttributeError StopIteration""".split())
 BARRED = {"register", "mro", "elements", "open", "input", "law", "version_info", "with_traceback", "add_note"}
-NUMBER_METHODS = """__init__ read top bottom sign over __add__ __radd__ __sub__ __rsub__ __mul__ __rmul__ __neg__ __abs__
-    __pow__ __eq__ __str__ __repr__""".split()
+PLACES = {
+    numbers: "Number",
+    signals: "Signal Name Sum Times Late Every Spread read_signal",
+    nets: "Draft Net",
+    catalog: "halves joined running_sum held thinned filled",
+    runs: "run answers Player Trial tried",
+    blocks: "block_tables",
+}
+METHODS = {
+    numbers.Number: """__init__ read over __add__ __radd__ __sub__ __rsub__ __mul__ __rmul__ __neg__ __abs__ __pow__
+        __eq__ __str__ __repr__""",
+    **{kind: "__init__ WORD" for kind in (signals.Name, signals.Sum, signals.Times, signals.Late, signals.Every,
+                                          signals.Spread)},
+    nets.Draft: "__init__ __setitem__ __getitem__ __contains__ __len__ show made",
+    nets.Net: "read rate definition __eq__ __str__ __repr__",
+    runs.Player: "__init__ feed undo copy",
+    runs.Trial: "__init__ __enter__ __exit__",
+}
+PROPERTIES = {
+    numbers.Number: "top bottom sign",
+    nets.Draft: "inputs outputs",
+    nets.Net: "inputs outputs names period kept",
+    runs.Player: "net time",
+}
 
 
 def trees():
@@ -29,9 +51,8 @@ def trees():
 
 class PlacesTest(unittest.TestCase):
     def test_each_class_and_function_stands_in_its_file(self):
-        for module, names in ((numbers, ["Number"]), (signals, ["Signal", "Name", "Sum", "Times", "Late", "Every",
-                                                                "Spread", "read_signal"])):
-            for name in names:
+        for module, names in PLACES.items():
+            for name in names.split():
                 self.assertEqual(getattr(module, name).__module__, module.__name__)
 
     def test_each_error_stands_in_its_file(self):
@@ -40,14 +61,14 @@ class PlacesTest(unittest.TestCase):
             self.assertEqual(kind.__module__, "delaynets.errors")
 
     def test_each_method_stands_in_its_class(self):
-        for name in NUMBER_METHODS:
-            self.assertIn(name, vars(numbers.Number))
-        self.assertIsInstance(vars(numbers.Number)["read"], staticmethod)
-        for name in ("top", "bottom", "sign"):
-            self.assertIsInstance(vars(numbers.Number)[name], property)
-        for kind in (signals.Name, signals.Sum, signals.Times, signals.Late, signals.Every, signals.Spread):
-            self.assertIn("__init__", vars(kind))
-            self.assertIn("WORD", vars(kind))
+        for kind, names in METHODS.items():
+            for name in names.split():
+                self.assertIn(name, vars(kind), kind)
+        for kind, names in PROPERTIES.items():
+            for name in names.split():
+                self.assertIsInstance(vars(kind)[name], property, kind)
+        for kind in (numbers.Number, nets.Net):
+            self.assertIsInstance(vars(kind)["read"], staticmethod)
 
 
 class RulesTest(unittest.TestCase):
@@ -84,6 +105,15 @@ class RulesTest(unittest.TestCase):
                 if isinstance(node, ast.Constant):
                     self.assertNotIsInstance(node.value, (float, complex), path)
                     self.assertFalse(isinstance(node.value, str) and "%" in node.value, path)
+
+    def test_classes_and_comprehensions(self):
+        for path, tree in trees():
+            for node in ast.walk(tree):
+                self.assertNotIsInstance(node, ast.GeneratorExp, f"{path} {getattr(node, 'lineno', 0)}")
+                if isinstance(node, ast.FunctionDef) and node.name in ("__eq__", "__len__", "__str__", "__repr__"):
+                    self.assertIsInstance(node.body[-1], ast.Return, path)
+                    self.assertFalse(any(isinstance(inner, (ast.Assign, ast.AugAssign)) for inner in ast.walk(node)),
+                                     f"{path} {node.lineno}")
 
     def test_names(self):
         for path, tree in trees():

@@ -33,8 +33,7 @@ def _block(plan, turn, kept, samples):
     for time in range(turn):
         shown, kept = plan.over_unit(time, samples[time::turn], kept)
         pieces.append(shown)
-    outputs = range(len(pieces[0]))
-    return (kept, [sample for at in outputs for piece in pieces for sample in piece[at]])
+    return (kept, [sample for at in range(len(pieces[0])) for piece in pieces for sample in piece[at]])
 
 
 def _table(columns, height):

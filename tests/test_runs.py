@@ -261,9 +261,9 @@ class AnswersTest(RunCase):
             self.fails(NotANet, lambda: next(answers(value, 9, 9, until=9)), value=value)
         strange = [*plain_values(), *number_values(), *signal_values(), -1]
         for value in strange + [2, 3]:
-            self.fails(InvalidCount, lambda: next(answers(net, value, -1, until=-2)), value=value)
+            self.fails(InvalidCount, lambda: next(answers(net, value, "index", until="until")), value=value)
         for value in strange + [201, 1000, 10 ** 39]:
-            self.fails(InvalidCount, lambda: next(answers(net, 1, value, until=-2)), value=value)
+            self.fails(InvalidCount, lambda: next(answers(net, 1, value, until="until")), value=value)
             self.fails(InvalidCount, lambda: next(answers(net, 1, 200, until=value)), value=value)
             self.fails(InvalidCount, lambda: next(answers(net, 0, 0, until=value)), value=value)
         self.fails(InvalidCount, lambda: next(answers(joined(), 1, 0, until=1)), value=1)

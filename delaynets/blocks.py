@@ -1,9 +1,10 @@
 """Blocks as tables: what a net shows in a block, and keeps behind it, as sums of multiples."""
 
 from delaynets.errors import InvalidTime
+from delaynets.forms import nothing, units
 from delaynets.limits import MAX_JOINT
 from delaynets.nets import check_net
-from delaynets.numbers import Number, is_integer
+from delaynets.numbers import is_integer
 from delaynets.plans import Plan
 
 
@@ -12,30 +13,29 @@ def block_tables(net, turn):
     check_net(net)
     if not is_integer(turn) or not 1 <= turn <= MAX_JOINT or turn % net.period != 0:
         raise InvalidTime(turn)
-    plan = Plan(net)
-    width = len(net.inputs) * turn
-    no_samples = _unit_row(width, None)
-    from_kept = [_block(plan, turn, _unit_row(net.kept, at), no_samples) for at in range(net.kept)]
-    from_samples = [_block(plan, turn, _unit_row(net.kept, None), _unit_row(width, at)) for at in range(width)]
-    shown = sum([turn * net.rate(name)[0] // net.rate(name)[1] for name in net.outputs])
-    return (_table([kept for kept, _ in from_kept], net.kept), _table([kept for kept, _ in from_samples], net.kept),
-            _table([row for _, row in from_kept], shown), _table([row for _, row in from_samples], shown))
+    behind = net.kept + len(net.inputs) * turn
+    shown, ends = over_block(net, turn, units(0, net.kept), input_forms(net, turn, net.kept))
+    samples = [sample for row in shown for sample in row]
+    return (_table(ends, 0, net.kept), _table(ends, net.kept, behind),
+            _table(samples, 0, net.kept), _table(samples, net.kept, behind))
 
 
-def _unit_row(width, place):
-    """Zeros, with a 1 at the place if there is one."""
-    return tuple([Number(1 if at == place else 0) for at in range(width)])
+def input_forms(net, turn, first):
+    """The samples of each input in a block as variables, numbered from one on."""
+    return [units(first + turn * at, first + turn * (at + 1)) for at in range(len(net.inputs))]
 
 
-def _block(plan, turn, kept, samples):
-    """What is kept behind a block, and what the outputs show in it, one output after the other."""
-    pieces = []
+def over_block(net, turn, kept, samples):
+    """What each output shows in a block, and what is kept behind it; all these are forms."""
+    plan = Plan(net, nothing(), 1)
+    shown = [[] for _ in net.outputs]
     for time in range(turn):
-        shown, kept = plan.over_unit(time, samples[time::turn], kept)
-        pieces.append(shown)
-    return (kept, [sample for at in range(len(pieces[0])) for piece in pieces for sample in piece[at]])
+        rows, kept = plan.over_piece(time, [row[time] for row in samples], kept)
+        for line, row in zip(shown, rows):
+            line.extend(row)
+    return shown, kept
 
 
-def _table(columns, height):
-    """The table with these columns, as a tuple of rows."""
-    return tuple([tuple([column[at] for column in columns]) for at in range(height)])
+def _table(forms, first, behind):
+    """The multiples of these variables in each form, as a tuple of rows."""
+    return tuple([tuple(form.shares(first, behind)) for form in forms])

@@ -15,15 +15,16 @@ from delaynets.signals import Every, Late, Name, Spread, Times
 class Part:
     """An expression at its place in the definitions of a net."""
 
-    def __init__(self, signal, gap, place):
+    def __init__(self, signal, gap, place, zero):
         self._signal = signal
         self._gap = gap
         self._place = place
+        self._zero = zero
         self._many = signal.amount if isinstance(signal, Late) else 0
         self._inner = []
         self._behind = place + self._many
         for inside in signal.inside:
-            part = Part(inside, _gap_inside(signal, gap), self._behind)
+            part = Part(inside, _gap_inside(signal, gap), self._behind, zero)
             self._inner.append(part)
             self._behind = part.behind()
 
@@ -51,7 +52,7 @@ class Part:
         if self._many > 0:
             return kept[self._place + self._many - 1]
         if isinstance(self._signal, Spread) and not self._inner[0].is_due(moment):
-            return Number(0)
+            return self._zero
         total = self._inner[0].sample(moment, values, kept)
         for inside in self._inner[1:]:
             total = total + inside.sample(moment, values, kept)
@@ -66,38 +67,51 @@ class Part:
 
 
 class Plan:
-    """What is due at each moment of a block of a net, in an order in which it can be worked out."""
+    """What is due at each moment of a block of a net, in an order in which it can be worked out.
 
-    def __init__(self, net):
+    Samples may be of any class whose objects can be added, and multiplied by a Number, `zero` being its zero.
+    Each time unit is cut into as many pieces, evenly, as `cuts` says.
+    """
+
+    def __init__(self, net, zero, cuts):
         self._inputs = net.inputs
         self._outputs = net.outputs
+        self._zero = zero
         definitions = {name: net.definition(name) for name in net.names if name not in net.inputs}
         moments = _moments_of(net, definitions)
         self._gaps = {name: moments * net.rate(name)[1] // net.rate(name)[0] for name in net.names}
-        self._wholes = _wholes_of(definitions, self._gaps)
+        self._wholes = _wholes_of(definitions, self._gaps, zero)
         self._keepers = [part for whole in self._wholes.values() for part in whole.keepers()]
         order = in_order(definitions)
-        self._units = [self._unit(order, time * moments, moments) for time in range(net.period)]
+        length = moments // cuts
+        self._pieces = [self._piece(order, at * length, length) for at in range(net.period * cuts)]
 
-    def _unit(self, order, start, moments):
-        """The moments of a time unit with the names that are worked out then, without those that have none."""
-        unit = []
-        for moment in range(start, start + moments):
+    def _piece(self, order, start, length):
+        """The moments of a piece with the names that are worked out then, without those that have none."""
+        piece = []
+        for moment in range(start, start + length):
             due = [name for name in order if moment % self._gaps[name] == 0]
             shown = [name for name in self._outputs if moment % self._gaps[name] == 0]
             if due or shown or any([part.is_due(moment) for part in self._keepers]):
-                unit.append((moment, due, shown))
-        return unit
+                piece.append((moment, due, shown))
+        return piece
 
     def start(self):
         """What is kept in the beginning."""
-        return tuple([Number(0) for part in self._keepers for _ in range(part.many())])
+        return tuple([self._zero for part in self._keepers for _ in range(part.many())])
 
-    def over_unit(self, time, samples, kept):
-        """What the outputs show from a time on, before the next one, and what is kept then."""
+    def is_idle(self, number):
+        """Whether nothing happens in the piece with this number."""
+        return not self._pieces[number]
+
+    def over_piece(self, number, samples, kept):
+        """What the outputs show in a piece, and what is kept behind it.
+
+        The samples are those of the inputs at the beginning of the piece, if they have any there.
+        """
         values = dict(zip(self._inputs, samples))
         rows = {name: [] for name in self._outputs}
-        for moment, due, shown in self._units[time % len(self._units)]:
+        for moment, due, shown in self._pieces[number % len(self._pieces)]:
             for name in due:
                 values[name] = self._wholes[name].sample(moment, values, kept)
             for name in shown:
@@ -126,12 +140,12 @@ def _moments_of(net, definitions):
     return moments
 
 
-def _wholes_of(definitions, gaps):
+def _wholes_of(definitions, gaps, zero):
     """The whole of each definition as a part."""
     wholes = {}
     place = 0
     # The kept samples are numbered in the order of the text, in which the names ascend.
     for name in sorted(definitions):
-        wholes[name] = Part(definitions[name], gaps[name], place)
+        wholes[name] = Part(definitions[name], gaps[name], place, zero)
         place = wholes[name].behind()
     return wholes

@@ -2,7 +2,7 @@
 
 from delaynets.errors import InvalidCount, InvalidInputs, InvalidSamples, NotAPlayer, NothingToUndo
 from delaynets.nets import check_net
-from delaynets.numbers import as_number, is_integer, is_number
+from delaynets.numbers import Number, as_number, is_integer, is_number
 from delaynets.plans import Plan
 
 MAX_INDEX = 200
@@ -14,7 +14,7 @@ class Player:
     def __init__(self, net):
         check_net(net)
         self._net = net
-        self._plan = Plan(net)
+        self._plan = Plan(net, Number(0), 1)
         self._begun = 0
         # What was kept before each feed that can be taken back, and what is kept now. The tuple
         # is never changed, only replaced, so that a Trial has no more to do than to put it back.
@@ -38,7 +38,7 @@ class Player:
             if not is_number(sample):
                 raise InvalidSamples(index)
         numbers = [as_number(sample) for sample in samples]
-        shown, kept = self._plan.over_unit(self.time, numbers, self._line[-1])
+        shown, kept = self._plan.over_piece(self.time, numbers, self._line[-1])
         self._line = (*self._line, kept)
         return shown
 

@@ -44,7 +44,7 @@ class Machine:
         return self._input_rates
 
     @property
-    def shown_rates(self):
+    def output_rates(self):
         """The tuple of the rates of the outputs."""
         return self._output_rates
 

@@ -5,7 +5,8 @@ import builtins
 import unittest
 from pathlib import Path
 
-from delaynets import blocks, catalog, errors, nets, numbers, runs, signals
+from delaynets import alike, blocks, catalog, certificates, checker, endings, errors, machines, nets, numbers, runs
+from delaynets import shifts, signals, telling, workshops
 
 FOLDER = Path(__file__).resolve().parent.parent / "delaynets"
 LIBRARY = {
@@ -26,6 +27,14 @@ PLACES = {
     catalog: "halves joined running_sum held thinned filled",
     runs: "run answers Player Trial tried",
     blocks: "block_tables",
+    alike: "alike difference parted_classes alike_on",
+    shifts: "keeps_time least_shift copy_of",
+    machines: "Machine normal_machine kept_numbers",
+    checker: "holds",
+    endings: "ends length_of settles",
+    telling: "told_back teller lost_input",
+    certificates: "certify_alike certify_kept certify_machine certify_settles certify_ends certify_told",
+    workshops: "Workshop",
 }
 METHODS = {
     numbers.Number: """__init__ read over __add__ __radd__ __sub__ __rsub__ __mul__ __rmul__ __neg__ __abs__ __pow__
@@ -36,12 +45,16 @@ METHODS = {
     nets.Net: "read rate definition __eq__ __str__ __repr__",
     runs.Player: "__init__ feed undo copy",
     runs.Trial: "__init__ __enter__ __exit__",
+    machines.Machine: "__init__ run __eq__ __repr__",
+    workshops.Workshop: "__init__ do do_all undo __getitem__ __setitem__ demands __len__ __contains__ __repr__",
 }
 PROPERTIES = {
     numbers.Number: "top bottom sign",
     nets.Draft: "inputs outputs",
     nets.Net: "inputs outputs names period kept",
     runs.Player: "net time",
+    machines.Machine: "input_rates output_rates steps turn sizes",
+    workshops.Workshop: "names history",
 }
 
 

@@ -4,19 +4,17 @@ from math import gcd
 
 from delaynets.numbers import Number
 from delaynets.tables import Span, dot, unit_row
-from delaynets.ticks import shown_rates, ticks_of_net, ticks_per_unit
+from delaynets.ticks import ticks_of_net
 
 
 def normal_steps(net):
     """The steps of the normal machine of a net."""
-    rates = shown_rates(net)
-    per_unit = ticks_per_unit(rates)
     steps = reduced(ticks_of_net(net))
+    per_unit = len(steps) // net.period
     for turn in range(1, net.period):
-        # A turn needs a whole number of samples of each output, whatever the steps are.
-        if net.period % turn == 0 and all([turn % bottom == 0 for _, bottom in rates]):
-            if steps[turn * per_unit:] == steps[:-turn * per_unit]:
-                return steps[:turn * per_unit]
+        # All outputs are written at the first step, so that a turn has a whole number of samples of each one.
+        if net.period % turn == 0 and steps[turn * per_unit:] == steps[:-turn * per_unit]:
+            return steps[:turn * per_unit]
     return steps
 
 

@@ -133,6 +133,16 @@ class AlikeTest(AlikeCase):
                           "c = sum(x, z, late(x, 1))\noutput c\noutput a\noutput b")
         self.assertEqual(difference(one, fourth), (1, 0, 1, 1))
 
+    def test_the_earlier_one_of_two_outputs_with_other_rates(self):
+        shapes = ("late(spread({0}, 3), {1})", "late(every({0}, 2), {1})", "late({0}, {1})", "late(spread({0}, 2), {1})",
+                  "late(every(spread({0}, 3), 2), {1})")
+        for one, other in itertools.permutations(shapes, 2):
+            for first, second in itertools.product((0, 1, 2, 4), repeat=2):
+                lines = [f"a = {one.format('x', first)}", f"b = {other.format('z', second)}"]
+                text = "\n".join(["input x", "input z", *lines, "output b", "output a"])
+                nothing = text.replace("(x,", "(w,").replace("(z,", "(w,").replace("output b", "w = times(0, x)\noutput b")
+                self.assertIs(self.check(text, nothing), False)
+
     def test_names_do_not_matter(self):
         self.assertIs(alike(Net.read("input x\ninput y\noutput y"), Net.read("input y\ninput x\noutput x")), True)
         self.assertIs(alike(Net.read("input x\ninput y\noutput y"), Net.read("input y\ninput x\noutput y")), False)

@@ -130,7 +130,8 @@ class TrueClaimsTest(PromiseTest):
     def test_wrong_forms_of_zero_sums(self):
         for claim, rows in (TRUE[0], TRUE[1], TRUE[9], TRUE[17], TRUE[19]):
             for wrong in (list(rows), tuple(map(list, rows)), tuple(row[:-1] for row in rows),
-                          tuple(row + (0,) for row in rows), rows[:-1] + (rows[-1][:-1],), rows + ((),), rows + (0,),
+                          tuple(row + (0,) for row in rows), tuple(row + (None,) for row in rows),
+                          tuple((True,) + row for row in rows), rows[:-1] + (rows[-1] + ("0",),), rows[:-1] + (rows[-1][:-1],), rows + ((),), rows + (0,),
                           rows + (None,), rows[0], None, 0, "", rows + ((True,) * len(rows[0]),),
                           rows + (tuple("0" for _ in rows[0]),), tuple(tuple(map(str, row)) for row in rows),
                           (rows,), rows + ([0] * len(rows[0]),), {}, {rows: True}, set(rows)):
@@ -271,6 +272,33 @@ class FalseClaimsTest(PromiseTest):
         steps = (((("2",),), (("2",),), (("1",),), (("1",),)), ((("1",),), (("0",),), (("0",),), (("0",),)))
         self.assertIs(holds(("made by", doubled, (ONE, ONE, steps)), ((2, -1),)), True)
         self.refuses(("settles", doubled, (ONE, ONE, steps)), (((2, -1),), ((1,),)), (((2, -1),), ((-1,),)))
+
+    def test_settles_with_steps_at_which_nothing_is_read_or_written(self):
+        text = "input x\na = spread(x, 2)\nb = spread(x, 3)\noutput a\noutput b"
+        lead = {"one": (("1",),), "half": (("1/2",),), "third": (("1/3",),), "three": (("3",),), "up": ((),), "down": (),
+                "two": (("1", "0"), ("0", "3")), "wide": (("1",), ("1",)), "narrow": (("1", "1"),)}
+
+        def step(tick, word, size):
+            inside = lead[word]
+            reads = 1 if tick == 0 else 0
+            shown = {0: 2, 2: 1, 3: 1, 4: 1}.get(tick, 0)
+            give = (("1",) if tick == 0 else (),) * shown
+            return (inside, tuple(("1",) * reads for _ in inside), (("0",) * size,) * shown, give)
+
+        rates = ((2, 1), (3, 1))
+        for words, wanted in (("one half one one one one", True), ("one three one one one one", False),
+                              ("half three one one one half", True), ("half three one one one one", False),
+                              ("one half one one one three", False), ("one down up one one one", True),
+                              ("one one one one down up", True), ("one wide two two narrow half", False),
+                              ("wide two narrow third one one", False), ("wide two narrow third one half", True),
+                              ("half half one one one one", True), ("one one one one one half", True),
+                              ("one one one one one one", False), ("three down up one one three", True)):
+            sizes = {"up": 0, "two": 2, "narrow": 2}
+            words = words.split()
+            steps = tuple(step(tick, word, sizes.get(word, 1)) for tick, word in enumerate(words))
+            machine = (ONE, rates, steps)
+            self.assertIs(holds(("made by", text, machine), ()), True, words)
+            self.assertIs(holds(("settles", text, machine), ((), ((1,),))), wanted, words)
 
     def test_ends(self):
         for text, lengths in ((JOINED, {"1": True, "0": False, "1/2": False, "2": True, "99/100": False, "101/100": True,

@@ -26,6 +26,8 @@ SLOW = [
     "input x\na = every(x, 5)\nb = times(0, spread(a, 5))\noutput b",
     "input x\na = times(0, every(x, 2))\nb = spread(every(x, 6), 6)\noutput a",
     "input x\na = times(0, every(x, 2))\nb = spread(every(x, 6), 6)\noutput a\noutput x",
+    "input x\na = late(x, 2)\nb = spread(every(a, 3), 3)\ny = sum(a, b)\noutput y",
+    "input x\na = late(x, 2)\nb = spread(every(a, 5), 5)\ny = sum(a, b)\noutput y",
     "input x\na = spread(every(x, 3), 2)\nb = every(every(x, 3), 1)\nc = times(0, every(every(x, 3), 2))\noutput a",
 ]
 
@@ -69,7 +71,7 @@ class ShiftsTest(PromiseTest):
 
     def test_periods_greater_than_the_least_shift(self):
         shifts = [least_shift(Net.read(text)) for text in SLOW]
-        self.assertEqual(shifts, [2, 1, 1, 2, 3, 2, 3, 1, 1, 2, 2, 3])
+        self.assertEqual(shifts, [2, 1, 1, 2, 3, 2, 3, 1, 1, 2, 2, 3, 5, 3])
         for text in SLOW:
             self.check(text)
 

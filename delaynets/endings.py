@@ -1,7 +1,6 @@
 """Whether the answers of a net end, or come below every bound."""
 
 from delaynets.machines import normal_machine
-from delaynets.nets import check_net
 from delaynets.pivots import lead_over_turn, steady
 from delaynets.singles import gaps_after
 
@@ -17,7 +16,6 @@ def ends(net):
 
 def length_of(net):
     """The longest time from a single 1 to a sample other than 0; None if there is none, or no longest one."""
-    check_net(net)
     if not ends(net):
         return None
     # Each block that an answer goes on for needs one more kept sample.

@@ -46,8 +46,7 @@ def steady(lead):
         if not span.takes(over_one(_equation(numbers, places, row, column))[0]):
             return None
     values = _solved(span, len(places))
-    rows = [[values[places.index((min(row, column), max(row, column)))] for column in range(size)]
-            for row in range(size)]
+    rows = [[values[places.index((min(at, to), max(at, to)))] for to in range(size)] for at in range(size)]
     return rows if are_pivots_positive(table_of(rows, size)) else None
 
 

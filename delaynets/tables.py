@@ -85,9 +85,9 @@ class Table:
 
     def __init__(self, rows, width, scale):
         shared = scale
-        for row in rows:
-            for entry in row:
-                shared = gcd(shared, entry)
+        for line in rows:
+            for part in line:
+                shared = gcd(shared, part)
         self._rows = [[entry // shared for entry in row] for row in rows] if shared > 1 else rows
         self._width = width
         self._scale = scale // shared

@@ -142,12 +142,12 @@ def independent(rows):
     return chosen
 
 
-def walk(machine, until, rows):
+def walk(machine, until, rows, kept=None):
     """The samples that a machine shows at the times below `until`, and what it keeps before each tick, as Fractions."""
     ratios = [Fraction(*rate) for rate in machine.input_rates]
     shown_ratios = [Fraction(*rate) for rate in machine.output_rates]
     per_unit = math.lcm(*[rate.numerator for rate in ratios + shown_ratios])
-    kept = [Fraction(0)] * machine.sizes[0]
+    kept = kept or [Fraction(0)] * machine.sizes[0]
     shown, states = [[] for _ in shown_ratios], []
     for tick in range(until * per_unit):
         states.append(kept)

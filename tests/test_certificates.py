@@ -177,6 +177,21 @@ class KeptTest(CertificateCase):
             self.assertIs(self.check(slow, tick), None)
         self.assertEqual(self.check(slow.replace("late(late(a, 6), 2)", "late(a, 1)"), 0), 72)
 
+    def test_the_last_tick_and_the_last_index(self):
+        slow = "input x\na = every(x, 5)\nb = late({0})\nc = spread({1})\noutput b\noutput c"
+        five = slow.format("late(a, 6), 2", "x, 5")
+        self.assertEqual([self.check(five, tick) for tick in (0, 1, 25, 100)], [200, 176, 200, 200])
+        self.assertIs(self.check(slow.format("late(a, 6), 2", "x, 6"), 0), None)
+        eight = slow.format("a, 6", "spread(x, 4), 2")
+        self.assertEqual([self.check(eight, tick) for tick in (0, 1, 2, 40, 41)], [None] * 5)
+        self.assertEqual(self.check(slow.format("a, 5", "spread(x, 4), 2"), 0), 200)
+        self.assertEqual(self.check(slow.format("a, 5", "spread(x, 4), 2"), 1), 161)
+        late = "input x\na = every(x, {0})\nb = late(a, {1})\nc = spread(spread(spread(b, {0}), {2}), 2)\noutput c"
+        self.assertEqual(self.check(late.format(5, 3, 4), 0), 120)
+        self.assertIs(self.check(late.format(5, 3, 5), 0), None)
+        self.assertIs(self.check(late.format(6, 2, 6), 0), None)
+        self.assertEqual(self.check(late.format(6, 2, 5), 0), 120)
+
     def test_no_numbers(self):
         for tick in (0, 50, 100):
             self.assertEqual(certify_kept(one_net("x"), tick), (("kept at least", "input x\ny = x\noutput y", tick, 0),
@@ -297,6 +312,12 @@ class OneNetTest(CertificateCase):
             self.assertIs(certify_settles(net) is None, beyond)
             self.assertIs(settles(net), True)
             self.accepted(certify_ends(net), "ends", str(net))
+
+    def test_as_many_steps_of_a_teller_as_there_may_be(self):
+        text = "input x\na = every(x, 6)\nb = sum(x, times(-1, spread(a, 6)), spread(late(a, 1), 6))\n" \
+               "c = spread(spread(b, 6), 2)\noutput c"
+        claim, _ = self.accepted(certify_told(Net.read(text)), "told back", text)
+        self.assertEqual((claim[2], len(claim[3][2])), (6, 72))
 
     def test_many_steps_of_a_teller(self):
         text = "input x\na = spread(every(x, 6), 6)\nb = sum(x, times(-1, a))\nc = late(a, {0})\nd = spread({1}, 6)\n" \

@@ -144,6 +144,15 @@ class NormalTest(PromiseTest):
                             ("input x\na = spread(late(every(x, 2), 1), 2)\noutput a", (1, 1))):
             self.assertEqual(kept_numbers(Net.read(text)), sizes)
 
+    def test_ticks_at_which_samples_are_shown_and_nothing_changes(self):
+        text = "input x\nw = late(z, 1)\ny = spread(every(w, 2), 2)\nz = sum(spread(x, 2), w, times(-1, y))\noutput z"
+        self.equal(normal_machine(Net.read(text)), Machine(ONE, ((2, 1),), (
+            (((),), ((1,),), ((),), ((1,),)), ((), (), ((1,),), ((),)))))
+        third = text.replace("every(w, 2), 2", "every(w, 3), 3").replace("spread(x, 2)", "spread(x, 3)")
+        self.assertEqual(kept_numbers(Net.read(third)), (0, 1, 1))
+        fast = Net.read("input x\nz = sum(spread(x, 3), late(z, 1))\noutput z")
+        self.assertEqual(kept_numbers(fast), (1, 1, 1))
+
     def test_states_that_no_input_leads_to(self):
         # The ring repeats what never comes in: its kept sample stays 0.
         net = Net.read("input x\ny = sum(x, z)\nz = late(sum(z, times(0, x)), 1)\noutput y")
